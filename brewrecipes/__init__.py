@@ -1,0 +1,1 @@
+"""Recipes: texts that tell a beer's malts, hops and other things by parts."""

@@ -1,0 +1,204 @@
+"""Recipes: a text is read line by line, up to the first line at which something is wrong."""
+
+MOST_BYTES = 16384
+MOST_OF_A_KIND = 16
+MOST_NAME_SIGNS = 12
+# No bound has more digits; a longer word is never handed to int, which refuses words of some thousand digits.
+MOST_DIGITS = 6
+
+LETTERS = "abcdefghijklmnopqrstuvwxyz"
+DIGITS = "0123456789"
+# Stands for every byte that no formed line holds, so that one sign spoils a word as well as another.
+OTHER = "?"
+
+UNFORMED = 1
+TOO_MUCH = 2
+CANNOT_STAND = 3
+CLASHES = 4
+
+# The least and the most of each number, in the order in which they stand in a line of that kind.
+BOUNDS = {
+    "recipe": (),
+    "malt": ((1, 10000), (1, 850)),
+    "hop": ((1, 10000), (1, 2500), (0, 120)),
+    "add": ((1, 100000),),
+    "yeast": ((1, 950),),
+}
+
+# The kinds that the line before may be of; "" is before the first line.
+MAY_FOLLOW = {
+    "recipe": ("",),
+    "malt": ("recipe", "malt"),
+    "hop": ("malt", "hop"),
+    "add": ("malt", "hop", "add"),
+    "yeast": ("malt", "hop", "add"),
+}
+
+# Where a hop's minutes stand among its numbers.
+MINUTES = 2
+
+
+class Row:
+    """A formed line: its kind, its name ("" for the yeast) and its numbers."""
+
+    def __init__(self, kind, name, numbers):
+        self.kind = kind
+        self.name = name
+        self.numbers = numbers
+
+
+class Reading:
+    """What a text tells: its rows by kind, and the refusal that it earns, [] if it is a recipe."""
+
+    def __init__(self):
+        self.rows = {"recipe": [], "malt": [], "hop": [], "add": [], "yeast": []}
+        self.refusal = []
+
+
+def sign_of(byte):
+    """Give back the sign that a byte stands for."""
+    if byte == ord("\n"):
+        return "\n"
+    if byte == ord(" "):
+        return " "
+    if ord("0") <= byte <= ord("9"):
+        return DIGITS[byte - ord("0")]
+    if ord("a") <= byte <= ord("z"):
+        return LETTERS[byte - ord("a")]
+    return OTHER
+
+
+def spell(text):
+    """Give back a text's bytes as signs."""
+    return "".join([sign_of(byte) for byte in text])
+
+
+def is_made_of(word, signs):
+    """Tell whether a word holds nothing but these signs."""
+    for sign in word:
+        if sign not in signs:
+            return False
+    return True
+
+
+def is_name(word):
+    """Tell whether a word is formed as a name."""
+    return 1 <= len(word) <= MOST_NAME_SIGNS and is_made_of(word, LETTERS + DIGITS)
+
+
+def is_number(word):
+    """Tell whether a word is formed as a number that could lie within some bounds."""
+    if not 1 <= len(word) <= MOST_DIGITS or not is_made_of(word, DIGITS):
+        return False
+    return word == "0" or word[0] != "0"
+
+
+def numbers_in(words, kind):
+    """Give back the numbers that words write, or None if one is not formed or out of its bounds for that kind."""
+    numbers = []
+    for word, bound in zip(words, BOUNDS[kind]):
+        if not is_number(word) or not bound[0] <= int(word) <= bound[1]:
+            return None
+        numbers.append(int(word))
+    return numbers
+
+
+def row_of(signs):
+    """Give back the row that a line's signs form, or None if it is not formed."""
+    words = signs.split(" ")
+    kind = words[0]
+    if kind not in BOUNDS:
+        return None
+    names = 0 if kind == "yeast" else 1
+    if len(words) != 1 + names + len(BOUNDS[kind]):
+        return None
+    if names == 1 and not is_name(words[1]):
+        return None
+    numbers = numbers_in(words[1 + names:], kind)
+    if numbers is None:
+        return None
+    return Row(kind, words[1] if names == 1 else "", numbers)
+
+
+def hop_clashes(row, earlier):
+    """Tell whether a hop clashes with the hops before it."""
+    minutes = row.numbers[MINUTES]
+    if len(earlier) > 0 and minutes > earlier[-1].numbers[MINUTES]:
+        return True
+    for other in earlier:
+        if other.name == row.name and other.numbers[MINUTES] == minutes:
+            return True
+    return False
+
+
+def clashes(row, earlier):
+    """Tell whether a row clashes with those of its kind before it."""
+    if row.kind == "hop":
+        return hop_clashes(row, earlier)
+    return row.name in [other.name for other in earlier]
+
+
+def why_wrong(row, before, earlier):
+    """Give back why a row (None: not formed) is wrong behind one of the kind before, or 0 if it is right."""
+    if row is None:
+        return UNFORMED
+    if before not in MAY_FOLLOW[row.kind]:
+        return CANNOT_STAND
+    if clashes(row, earlier[row.kind]):
+        return CLASHES
+    if len(earlier[row.kind]) >= MOST_OF_A_KIND:
+        return TOO_MUCH
+    return 0
+
+
+def why_wrong_at_end(rest, before):
+    """Give back why a text may not end so, with the rest behind its last line feed, or 0 if it may."""
+    if rest != "":
+        return UNFORMED
+    if before != "yeast":
+        return CANNOT_STAND
+    return 0
+
+
+def read_lines(reading, text):
+    """Put a text's rows into the reading, up to its fault; give back the fault's line and why, [] if it has none."""
+    lines = spell(text).split("\n")
+    rest = lines.pop()
+    before = ""
+    for number, signs in enumerate(lines):
+        row = row_of(signs)
+        why = why_wrong(row, before, reading.rows)
+        if why != 0:
+            return [number, why]
+        reading.rows[row.kind].append(row)
+        before = row.kind
+    why = why_wrong_at_end(rest, before)
+    return [] if why == 0 else [len(lines), why]
+
+
+def read_text(text):
+    """Give back the reading of a text."""
+    reading = Reading()
+    if len(text) > MOST_BYTES:
+        reading.refusal = [-2]
+        return reading
+    fault = read_lines(reading, text)
+    if len(fault) > 0:
+        reading.refusal = [-6] + fault
+    return reading
+
+
+def judge(text):
+    """Answer 0 if the text is a recipe, else its refusal."""
+    reading = read_text(text)
+    if len(reading.refusal) > 0:
+        return reading.refusal
+    return [0]
+
+
+def sizes(text):
+    """Answer 0 and how many malts, hops and adds the recipe has, else its refusal."""
+    reading = read_text(text)
+    if len(reading.refusal) > 0:
+        return reading.refusal
+    return [0] + [len(reading.rows[kind]) for kind in ("malt", "hop", "add")]

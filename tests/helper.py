@@ -1,0 +1,112 @@
+"""Texts for the tests, and a second judge, written another way, to hold the program against."""
+import re
+
+PLAIN = [
+    "recipe pale1",
+    "malt pils 90 800",
+    "malt wheat 10 820",
+    "hop saaz 2 350 60",
+    "hop saaz 3 350 10",
+    "hop hersb 1 300 10",
+    "add gypsum 20",
+    "add salt 5",
+    "yeast 780",
+]
+
+NAMES = ["n%d" % k for k in range(17)]
+
+
+def coded(words):
+    """The list of bytes of a text told as str or bytes."""
+    return list(words.encode("latin-1") if isinstance(words, str) else words)
+
+
+def text_of(lines):
+    """The list of bytes of these lines, a line feed behind each."""
+    return coded("".join(line + "\n" for line in lines))
+
+
+def malts(count):
+    return ["malt %s 1 800" % name for name in NAMES[:count]]
+
+
+def hops(count):
+    return ["hop %s 1 300 60" % name for name in NAMES[:count]]
+
+
+def adds(count):
+    return ["add %s 1" % name for name in NAMES[:count]]
+
+
+def recipe_of(malt_count, hop_count, add_count):
+    return ["recipe r"] + malts(malt_count) + hops(hop_count) + adds(add_count) + ["yeast 750"]
+
+
+class Unchangeable(list):
+    """A list that tells at once of a change, even one that would be taken back."""
+
+    def refuse(self, *args, **kwargs):
+        raise AssertionError("what was handed in was changed")
+
+    append = clear = extend = insert = pop = remove = reverse = sort = refuse
+    __setitem__ = __delitem__ = __iadd__ = __imul__ = refuse
+
+
+NUMBER = rb"(0|[1-9][0-9]*)"
+NAME = rb"([a-z0-9]{1,12})"
+FORMS = {
+    "r": (re.compile(rb"recipe " + NAME), []),
+    "m": (re.compile(rb"malt " + NAME + rb" " + NUMBER + rb" " + NUMBER), [(1, 10000), (1, 850)]),
+    "h": (re.compile(rb"hop " + NAME + (rb" " + NUMBER) * 3), [(1, 10000), (1, 2500), (0, 120)]),
+    "a": (re.compile(rb"add " + NAME + rb" " + NUMBER), [(1, 100000)]),
+    "y": (re.compile(rb"yeast()" + rb" " + NUMBER), [(1, 950)]),
+}
+ORDER_SO_FAR = re.compile(r"(r(m+(h*|h*a+|h*a*y))?)?")
+
+
+def formed(line):
+    """(kind, name, numbers) of a line's bytes, None if it isn't formed. For words of less than 4,300 digits."""
+    for kind, (form, bounds) in FORMS.items():
+        match = form.fullmatch(line)
+        if match:
+            numbers = [int(digits) for digits in match.groups()[1:]]
+            if all(least <= n <= most for n, (least, most) in zip(numbers, bounds)):
+                return kind, match.group(1), numbers
+    return None
+
+
+def reasons(row, earlier):
+    """All the reasons that hold of a formed line behind right ones."""
+    kind, name, numbers = row
+    like_kind = [other for other in earlier if other[0] == kind]
+    found = set()
+    if not ORDER_SO_FAR.fullmatch("".join(other[0] for other in earlier) + kind):
+        found.add(3)
+    if kind in "ma" and any(other[1] == name for other in like_kind):
+        found.add(4)
+    if kind == "h" and any(other[1] == name and other[2][2] == numbers[2] for other in like_kind):
+        found.add(4)
+    if kind == "h" and like_kind and like_kind[-1][2][2] < numbers[2]:
+        found.add(4)
+    if kind in "mha" and len(like_kind) >= 16:
+        found.add(2)
+    return found
+
+
+def second_judge(text):
+    """What judge and sizes must answer of a text of at most 16,384 bytes, as a pair."""
+    *lines, rest = bytes(text).split(b"\n")
+    earlier = []
+    for number, line in enumerate(lines):
+        row = formed(line)
+        found = {1} if row is None else reasons(row, earlier)
+        for why in (1, 3, 4, 2):
+            if why in found:
+                return [-6, number, why], [-6, number, why]
+        earlier.append(row)
+    kinds = [row[0] for row in earlier]
+    if rest:
+        return [-6, len(lines), 1], [-6, len(lines), 1]
+    if "y" not in kinds:
+        return [-6, len(lines), 3], [-6, len(lines), 3]
+    return [0], [0, kinds.count("m"), kinds.count("h"), kinds.count("a")]
