@@ -1,4 +1,4 @@
-"""Recipes: a text is read line by line, up to the first line at which something is wrong."""
+"""Recipes: a text is read line by line, up to the first line at which something is wrong; a batch is scaled from it."""
 
 MOST_BYTES = 16384
 MOST_OF_A_KIND = 16
@@ -34,8 +34,18 @@ MAY_FOLLOW = {
     "yeast": ("malt", "hop", "add"),
 }
 
-# Where a hop's minutes stand among its numbers.
+# What line tells of a row's kind; they are told in this order.
+KIND_NUMBERS = {"malt": 0, "hop": 1, "add": 2}
+NUMBERS_TOLD = 3
+
+# Where a malt's or a hop's parts, an add's grams and a hop's minutes stand among its numbers.
+PARTS = 0
+GRAMS = 0
 MINUTES = 2
+
+MOST_ML = 10000000
+MOST_GRAMS = 10000000
+ML_IN_HECTOLITRE = 100000
 
 
 class Row:
@@ -188,6 +198,46 @@ def read_text(text):
     return reading
 
 
+def told_rows(reading):
+    """Give back a recipe's malts, then its hops, then its adds."""
+    rows = []
+    for kind in KIND_NUMBERS:
+        rows.extend(reading.rows[kind])
+    return rows
+
+
+def numbers_of_row(row):
+    """Give back a row as numbers: its kind, its numbers, how long its name is and the name's bytes."""
+    noughts = [0] * (NUMBERS_TOLD - len(row.numbers))
+    return [KIND_NUMBERS[row.kind]] + row.numbers + noughts + [len(row.name)] + [ord(sign) for sign in row.name]
+
+
+def is_batch(ml, malt, hops, reading):
+    """Tell whether these millilitres and grams are a batch of the recipe."""
+    if not 1 <= ml <= MOST_ML or not 0 <= malt <= MOST_GRAMS or not 0 <= hops <= MOST_GRAMS:
+        return False
+    return hops == 0 or len(reading.rows["hop"]) > 0
+
+
+def scaled(rows, weight):
+    """Give back the whole grams of each row, by its parts, that are together just the weight."""
+    together = sum([row.numbers[PARTS] for row in rows])
+    # Whole numbers tell the fractions exactly: each stands above the same number, the parts together.
+    above = [weight * row.numbers[PARTS] for row in rows]
+    grams = [share // together for share in above]
+    left_over = weight - sum(grams)
+    # Like fractions stay in their order when sorted, so the first of them comes first.
+    by_fraction = sorted(range(len(above)), key=lambda place: -(above[place] % together))
+    for place in by_fraction[:left_over]:
+        grams[place] = grams[place] + 1
+    return grams
+
+
+def grams_of_add(row, ml):
+    """Give back the grams of an add, half a gram and more rounded up."""
+    return (row.numbers[GRAMS] * ml + ML_IN_HECTOLITRE // 2) // ML_IN_HECTOLITRE
+
+
 def judge(text):
     """Answer 0 if the text is a recipe, else its refusal."""
     reading = read_text(text)
@@ -201,4 +251,26 @@ def sizes(text):
     reading = read_text(text)
     if len(reading.refusal) > 0:
         return reading.refusal
-    return [0] + [len(reading.rows[kind]) for kind in ("malt", "hop", "add")]
+    return [0] + [len(reading.rows[kind]) for kind in KIND_NUMBERS]
+
+
+def line(i, text):
+    """Answer 0 and the i-th of the recipe's malts, hops and adds as numbers, else its refusal, or -4: there is none."""
+    reading = read_text(text)
+    if len(reading.refusal) > 0:
+        return reading.refusal
+    rows = told_rows(reading)
+    if i >= len(rows):
+        return [-4]
+    return [0] + numbers_of_row(rows[i])
+
+
+def scale(ml, malt, hops, text):
+    """Answer 0 and the grams of malts, hops and adds of a batch, else the text's refusal, or -1: it is no batch."""
+    reading = read_text(text)
+    if len(reading.refusal) > 0:
+        return reading.refusal
+    if not is_batch(ml, malt, hops, reading):
+        return [-1]
+    adds = [grams_of_add(row, ml) for row in reading.rows["add"]]
+    return [0] + scaled(reading.rows["malt"], malt) + scaled(reading.rows["hop"], hops) + adds

@@ -1,5 +1,8 @@
-"""Texts for the tests, and a second judge, written another way, to hold the program against."""
+"""Texts for the tests, and a second judge and scaler, written another way, to hold the program against."""
 import re
+from fractions import Fraction
+
+from brewrecipes.recipes import judge, line, scale, sizes
 
 PLAIN = [
     "recipe pale1",
@@ -14,6 +17,17 @@ PLAIN = [
 ]
 
 NAMES = ["n%d" % k for k in range(17)]
+
+
+# Every call as one of a text alone, with other arguments that are right, and that would be refused by themselves.
+CALLS = {
+    "judge": judge,
+    "sizes": sizes,
+    "line": lambda text: line(0, text),
+    "line beyond": lambda text: line(4294967295, text),
+    "scale": lambda text: scale(100000, 20000, 0, text),
+    "scale beyond": lambda text: scale(0, 4294967295, 4294967295, text),
+}
 
 
 def coded(words):
@@ -40,6 +54,30 @@ def adds(count):
 
 def recipe_of(malt_count, hop_count, add_count):
     return ["recipe r"] + malts(malt_count) + hops(hop_count) + adds(add_count) + ["yeast 750"]
+
+
+class Draws:
+    """Numbers that look drawn by lot and are the same in every run."""
+
+    def __init__(self, start):
+        self.state = start
+
+    def between(self, least, most):
+        self.state = (self.state * 6364136223846793005 + 1442695040888963407) % 2 ** 64
+        return least + (self.state >> 24) % (most - least + 1)
+
+    def parts(self, most_count, most):
+        """1 to so many parts, each at most the given most, which is itself drawn small now and then."""
+        most = min(most, self.between(1, 10) if self.between(0, 1) else most)
+        return [self.between(1, most) for k in range(self.between(1, most_count))]
+
+
+def recipe_of_parts(malt_parts, hop_parts, add_grams=()):
+    lines = ["recipe r"]
+    lines += ["malt m%d %d 800" % (k, p) for k, p in enumerate(malt_parts)]
+    lines += ["hop h%d %d 300 %d" % (k, p, 120 - k) for k, p in enumerate(hop_parts)]
+    lines += ["add a%d %d" % (k, g) for k, g in enumerate(add_grams)]
+    return text_of(lines + ["yeast 750"])
 
 
 class Unchangeable(list):
@@ -110,3 +148,20 @@ def second_judge(text):
     if "y" not in kinds:
         return [-6, len(lines), 3], [-6, len(lines), 3]
     return [0], [0, kinds.count("m"), kinds.count("h"), kinds.count("a")]
+
+
+def second_scaled(parts, weight):
+    """The grams of each of these parts: gram by gram to the one who is furthest below its share, the first of like."""
+    shares = [Fraction(weight * p, sum(parts)) for p in parts]
+    grams = [int(share) for share in shares]
+    while sum(grams) < weight:
+        lacks = [share - gram for share, gram in zip(shares, grams)]
+        grams[lacks.index(max(lacks))] += 1
+    return grams
+
+
+def second_add(grams, ml):
+    """The grams of an add in so many millilitres."""
+    exact = Fraction(grams * ml, 100000)
+    whole = exact.numerator // exact.denominator
+    return whole + 1 if exact - whole >= Fraction(1, 2) else whole

@@ -6,10 +6,9 @@ import pathlib
 import unittest
 
 import brewrecipes
-from brewrecipes.recipes import judge, sizes
-from tests.helper import PLAIN, Unchangeable, coded, recipe_of, text_of
+from brewrecipes.recipes import judge, line, scale, sizes
+from tests.helper import CALLS, PLAIN, Unchangeable, coded, recipe_of, text_of
 
-CALLS = (judge, sizes)
 PACKAGE = pathlib.Path(brewrecipes.__file__).parent
 
 
@@ -19,7 +18,7 @@ def filled(text, sign, length):
 
 class LongTexts(unittest.TestCase):
     def check(self, text, answer):
-        for call in CALLS:
+        for call in CALLS.values():
             self.assertEqual(call(text), answer)
 
     def test_16384_bytes_are_read(self):
@@ -70,14 +69,26 @@ class ByItself(unittest.TestCase):
 
     def test_what_was_handed_in_is_as_it_was(self):
         for text in self.texts:
-            for call in CALLS:
+            for call in CALLS.values():
                 before = list(text)
                 call(text)
                 self.assertEqual(text, before)
                 self.assertEqual(call(Unchangeable(text)), call(text))
 
+    def test_what_was_handed_in_is_as_it_was_whatever_else_is_handed_in(self):
+        batches = [(1, 0, 0), (100000, 20001, 77), (10000000, 10000000, 10000000), (0, 1, 1), (1, 10000001, 1)]
+        for text in self.texts:
+            before = list(text)
+            held = Unchangeable(text)
+            for i in (0, 1, 2, 4, 5, 6, 7, 47, 48, 4294967295):
+                self.assertEqual(line(i, held), line(i, text))
+            for batch in batches:
+                self.assertEqual(scale(*batch, held), scale(*batch, text))
+            self.assertEqual(text, before)
+            self.assertEqual(list(held), before)
+
     def test_a_second_call_answers_the_same(self):
-        for call in CALLS:
+        for call in CALLS.values():
             first = [call(text) for text in self.texts]
             for text, answer in list(zip(self.texts, first))[::-1]:
                 self.assertEqual(call(text), answer)
@@ -85,7 +96,7 @@ class ByItself(unittest.TestCase):
 
     def test_a_changed_answer_or_text_does_not_reach_the_next_call(self):
         for text in self.texts:
-            for call in CALLS:
+            for call in CALLS.values():
                 answer = call(text)
                 kept = list(answer)
                 answer.append(99)
@@ -102,7 +113,7 @@ class ByItself(unittest.TestCase):
         out = io.StringIO()
         with contextlib.redirect_stdout(out), contextlib.redirect_stderr(out):
             for text in self.texts:
-                for call in CALLS:
+                for call in CALLS.values():
                     call(text)
         self.assertEqual(out.getvalue(), "")
 
@@ -124,6 +135,18 @@ class ByItself(unittest.TestCase):
     def test_arguments_are_named_as_the_document_says(self):
         self.assertEqual(judge(text=text_of(PLAIN)), [0])
         self.assertEqual(sizes(text=text_of(PLAIN)), [0, 2, 3, 2])
+        self.assertEqual(line(i=6, text=text_of(PLAIN)), [0, 2, 5, 0, 0, 4, 115, 97, 108, 116])
+        self.assertEqual(scale(ml=100000, malt=20, hops=6, text=text_of(PLAIN)), [0, 18, 2, 2, 3, 1, 20, 5])
+
+    def test_whole_numbers_in_lists(self):
+        batches = [(1, 0, 0), (100000, 20001, 77), (10000000, 10000000, 10000000)]
+        answers = [call(text) for text in self.texts for call in CALLS.values()]
+        answers += [line(i, text) for text in self.texts for i in range(8)]
+        answers += [scale(*batch, text) for text in self.texts for batch in batches]
+        for answer in answers:
+            self.assertIs(type(answer), list)
+            for number in answer:
+                self.assertIs(type(number), int)
 
 
 class Form(unittest.TestCase):

@@ -1,14 +1,14 @@
 """Texts with a fault: its line and why, with every reason at its edges."""
 import unittest
 
-from brewrecipes.recipes import judge, sizes
-from tests.helper import PLAIN, adds, coded, hops, malts, recipe_of, text_of
+from brewrecipes.recipes import judge
+from tests.helper import CALLS, PLAIN, adds, coded, hops, malts, recipe_of, text_of
 
 
 class FaultCase(unittest.TestCase):
     def check(self, text, line, why):
-        self.assertEqual(judge(text), [-6, line, why])
-        self.assertEqual(sizes(text), [-6, line, why])
+        for name, call in CALLS.items():
+            self.assertEqual(call(text), [-6, line, why], name)
 
     def check_lines(self, lines, line, why):
         with self.subTest(lines=lines):
