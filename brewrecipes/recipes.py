@@ -1,4 +1,4 @@
-"""Recipes: a text is read line by line, up to the first line at which something is wrong; a batch is scaled from it."""
+"""Recipes: a text is read up to its first fault; a batch is scaled from it, and told what it comes to."""
 
 MOST_BYTES = 16384
 MOST_OF_A_KIND = 16
@@ -38,14 +38,29 @@ MAY_FOLLOW = {
 KIND_NUMBERS = {"malt": 0, "hop": 1, "add": 2}
 NUMBERS_TOLD = 3
 
-# Where a malt's or a hop's parts, an add's grams and a hop's minutes stand among its numbers.
+# Where a malt's or a hop's parts stand among its numbers, a malt's extract, a hop's acid and minutes, an add's grams
+# and how much the yeast turns.
 PARTS = 0
-GRAMS = 0
+EXTRACT = 1
+ACID = 1
 MINUTES = 2
+GRAMS = 0
+TURNED = 0
 
 MOST_ML = 10000000
 MOST_GRAMS = 10000000
 ML_IN_HECTOLITRE = 100000
+
+# Up to here every minute of boiling brings five thousandths of a hop to use, from here on one, up to the most.
+SLOW_MINUTES = 60
+MOST_USE = 330
+
+# Strength is gravity times what the yeast turns, times the one, divided by the other.
+STRENGTH_ABOVE = 51
+STRENGTH_BELOW = 1000000
+
+# What is added to why where the second of two texts has the fault.
+OF_SECOND = 16
 
 
 class Row:
@@ -219,6 +234,14 @@ def is_batch(ml, malt, hops, reading):
     return hops == 0 or len(reading.rows["hop"]) > 0
 
 
+def read_batch(ml, malt, hops, text):
+    """Give back the reading of a text, with the refusal -1 if it is a recipe but this is no batch of it."""
+    reading = read_text(text)
+    if len(reading.refusal) == 0 and not is_batch(ml, malt, hops, reading):
+        reading.refusal = [-1]
+    return reading
+
+
 def scaled(rows, weight):
     """Give back the whole grams of each row, by its parts, that are together just the weight."""
     together = sum([row.numbers[PARTS] for row in rows])
@@ -236,6 +259,57 @@ def scaled(rows, weight):
 def grams_of_add(row, ml):
     """Give back the grams of an add, half a gram and more rounded up."""
     return (row.numbers[GRAMS] * ml + ML_IN_HECTOLITRE // 2) // ML_IN_HECTOLITRE
+
+
+def lowest_terms(above, below):
+    """Give back what stands above and what stands below a fraction's line, in lowest terms; 0 is 0 / 1."""
+    common = below
+    rest = above
+    while rest > 0:
+        left = common % rest
+        common = rest
+        rest = left
+    return [above // common, below // common]
+
+
+def extract_of(rows, weight):
+    """Give back the milligrams of extract that malts of this weight give."""
+    return sum([grams * row.numbers[EXTRACT] for grams, row in zip(scaled(rows, weight), rows)])
+
+
+def use_of(minutes):
+    """Give back the use of a hop boiled so many minutes, in thousandths."""
+    if minutes < SLOW_MINUTES:
+        return 5 * minutes
+    return min(5 * SLOW_MINUTES + minutes - SLOW_MINUTES, MOST_USE)
+
+
+def bitter_of(rows, weight):
+    """Give back what hops of this weight bring to the whole batch's bitterness."""
+    strong = [row.numbers[ACID] * use_of(row.numbers[MINUTES]) for row in rows]
+    return sum([grams * each for grams, each in zip(scaled(rows, weight), strong)])
+
+
+def by_shares(rows):
+    """Give back names, numbers and shares of malts or hops, the same in whatever order and by whatever parts told."""
+    together = sum([row.numbers[PARTS] for row in rows])
+    return sorted([[row.name] + row.numbers[PARTS + 1:] + lowest_terms(row.numbers[PARTS], together) for row in rows])
+
+
+def likeness(reading):
+    """Give back what is the same of two recipes just if they are like."""
+    rows = reading.rows
+    adds = sorted([[row.name] + row.numbers for row in rows["add"]])
+    return [rows["yeast"][0].numbers, by_shares(rows["malt"]), by_shares(rows["hop"]), adds]
+
+
+def refusal_of_two(first, second):
+    """Give back the refusal that two readings earn together, [] if both are recipes."""
+    if [-2] in (first.refusal, second.refusal):
+        return [-2]
+    if len(first.refusal) > 0 or len(second.refusal) == 0:
+        return first.refusal
+    return second.refusal[:-1] + [second.refusal[-1] + OF_SECOND]
 
 
 def judge(text):
@@ -267,10 +341,29 @@ def line(i, text):
 
 def scale(ml, malt, hops, text):
     """Answer 0 and the grams of malts, hops and adds of a batch, else the text's refusal, or -1: it is no batch."""
-    reading = read_text(text)
+    reading = read_batch(ml, malt, hops, text)
     if len(reading.refusal) > 0:
         return reading.refusal
-    if not is_batch(ml, malt, hops, reading):
-        return [-1]
     adds = [grams_of_add(row, ml) for row in reading.rows["add"]]
     return [0] + scaled(reading.rows["malt"], malt) + scaled(reading.rows["hop"], hops) + adds
+
+
+def tells(ml, malt, hops, text):
+    """Answer 0 and a batch's gravity, bitterness and strength, else the text's refusal, or -1: it is no batch."""
+    reading = read_batch(ml, malt, hops, text)
+    if len(reading.refusal) > 0:
+        return reading.refusal
+    extract = extract_of(reading.rows["malt"], malt)
+    turned = reading.rows["yeast"][0].numbers[TURNED]
+    strength = lowest_terms(extract * turned * STRENGTH_ABOVE, ml * STRENGTH_BELOW)
+    return [0] + lowest_terms(extract, ml) + lowest_terms(bitter_of(reading.rows["hop"], hops), ml) + strength
+
+
+def like(text, other):
+    """Answer 1 if two recipes are like and 0 if not, else the refusal of the two texts."""
+    first = read_text(text)
+    second = read_text(other)
+    refusal = refusal_of_two(first, second)
+    if len(refusal) > 0:
+        return refusal
+    return [1 if likeness(first) == likeness(second) else 0]

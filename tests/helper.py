@@ -1,8 +1,8 @@
-"""Texts for the tests, and a second judge and scaler, written another way, to hold the program against."""
+"""Texts for the tests, and a second judge, scaler and teller, written another way, to hold the program against."""
 import re
 from fractions import Fraction
 
-from brewrecipes.recipes import judge, line, scale, sizes
+from brewrecipes.recipes import judge, like, line, scale, sizes, tells
 
 PLAIN = [
     "recipe pale1",
@@ -19,7 +19,8 @@ PLAIN = [
 NAMES = ["n%d" % k for k in range(17)]
 
 
-# Every call as one of a text alone, with other arguments that are right, and that would be refused by themselves.
+# Every call as one of a text alone, with other arguments that are right, and that would be refused by themselves. Of
+# like the first text; what the second one's refusal is is another.
 CALLS = {
     "judge": judge,
     "sizes": sizes,
@@ -27,6 +28,11 @@ CALLS = {
     "line beyond": lambda text: line(4294967295, text),
     "scale": lambda text: scale(100000, 20000, 0, text),
     "scale beyond": lambda text: scale(0, 4294967295, 4294967295, text),
+    "tells": lambda text: tells(100000, 20000, 0, text),
+    "tells beyond": lambda text: tells(0, 4294967295, 4294967295, text),
+    "like": lambda text: like(text, text_of(PLAIN)),
+    "like beyond": lambda text: like(text, []),
+    "like itself": lambda text: like(text, text),
 }
 
 
@@ -56,6 +62,18 @@ def recipe_of(malt_count, hop_count, add_count):
     return ["recipe r"] + malts(malt_count) + hops(hop_count) + adds(add_count) + ["yeast 750"]
 
 
+# Texts that every call refuses, one for each refusal and why, and what it answers.
+REFUSED = [
+    ([], [-6, 0, 3]),
+    (text_of(PLAIN)[:-1], [-6, 8, 1]),
+    (text_of(PLAIN[:8]), [-6, 8, 3]),
+    (text_of(PLAIN[:2] + PLAIN[1:]), [-6, 2, 4]),
+    (text_of(recipe_of(17, 1, 1)), [-6, 17, 2]),
+    (text_of(recipe_of(1, 17, 1)), [-6, 18, 2]),
+    (text_of(PLAIN) * 200, [-2]),
+]
+
+
 class Draws:
     """Numbers that look drawn by lot and are the same in every run."""
 
@@ -70,6 +88,22 @@ class Draws:
         """1 to so many parts, each at most the given most, which is itself drawn small now and then."""
         most = min(most, self.between(1, 10) if self.between(0, 1) else most)
         return [self.between(1, most) for k in range(self.between(1, most_count))]
+
+
+def recipe_drawn(draws, most_parts=10000):
+    """The lines of a recipe with everything drawn."""
+    lines = ["recipe r"]
+    lines += ["malt m%d %d %d" % (k, p, draws.between(1, 850)) for k, p in enumerate(draws.parts(16, most_parts))]
+    if draws.between(0, 3):
+        parts = draws.parts(16, most_parts)
+        minutes = sorted([draws.between(0, 120) for p in parts], reverse=True)
+        for k, (p, t) in enumerate(zip(parts, minutes)):
+            # Several hops of one name, but not with the same minutes.
+            name = k if minutes.count(t) > 1 else k % 5
+            lines.append("hop h%d %d %d %d" % (name, p, draws.between(1, 2500), t))
+    if draws.between(0, 3):
+        lines += ["add a%d %d" % (k, g) for k, g in enumerate(draws.parts(16, 100000))]
+    return lines + ["yeast %d" % draws.between(1, 950)]
 
 
 def recipe_of_parts(malt_parts, hop_parts, add_grams=()):
@@ -165,3 +199,52 @@ def second_add(grams, ml):
     exact = Fraction(grams * ml, 100000)
     whole = exact.numerator // exact.denominator
     return whole + 1 if exact - whole >= Fraction(1, 2) else whole
+
+
+def rows_of(text, kind):
+    """(name, numbers) of every line of a kind of a right recipe."""
+    rows = [formed(line) for line in bytes(text).split(b"\n")[:-1]]
+    return [(name, numbers) for other, name, numbers in rows if other == kind]
+
+
+def second_use(minutes):
+    """The thousandths that come to use, added up minute by minute."""
+    use = 0
+    for minute in range(minutes):
+        use += 5 if minute < 60 else 1 if minute < 90 else 0
+    return use
+
+
+def second_tells(ml, malt, hops, text):
+    """Gravity, bitterness and strength of a batch of a right recipe, as fractions."""
+    gravity = bitterness = Fraction(0)
+    rows = rows_of(text, "m")
+    for grams, (name, (p, x)) in zip(second_scaled([row[1][0] for row in rows], malt), rows):
+        gravity += Fraction(grams * x, ml)
+    rows = rows_of(text, "h")
+    for grams, (name, (p, a, t)) in zip(second_scaled([row[1][0] for row in rows], hops) if rows else [], rows):
+        bitterness += Fraction(grams * a * second_use(t), ml)
+    [(name, [turned])] = rows_of(text, "y")
+    return [gravity, bitterness, gravity * turned * 51 / 1000000]
+
+
+def second_like(text, other):
+    """Whether two right recipes are like: each line of the one finds its fellow in the other, and none is left."""
+    for kind in "ymha":
+        rows, fellows = rows_of(text, kind), rows_of(other, kind)
+        together = sum(numbers[0] for name, numbers in rows)
+        together_there = sum(numbers[0] for name, numbers in fellows)
+        for name, numbers in rows:
+            for fellow in fellows:
+                if kind in "mh":
+                    same = numbers[0] * together_there == fellow[1][0] * together
+                else:
+                    same = numbers[0] == fellow[1][0]
+                if same and fellow[0] == name and fellow[1][1:] == numbers[1:]:
+                    fellows.remove(fellow)
+                    break
+            else:
+                return False
+        if fellows:
+            return False
+    return True

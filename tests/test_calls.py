@@ -6,7 +6,7 @@ import pathlib
 import unittest
 
 import brewrecipes
-from brewrecipes.recipes import judge, line, scale, sizes
+from brewrecipes.recipes import judge, like, line, scale, sizes, tells
 from tests.helper import CALLS, PLAIN, Unchangeable, coded, recipe_of, text_of
 
 PACKAGE = pathlib.Path(brewrecipes.__file__).parent
@@ -20,6 +20,8 @@ class LongTexts(unittest.TestCase):
     def check(self, text, answer):
         for call in CALLS.values():
             self.assertEqual(call(text), answer)
+        there = answer if answer == [-2] else answer[:2] + [answer[2] + 16]
+        self.assertEqual(like(text_of(PLAIN), text), there)
 
     def test_16384_bytes_are_read(self):
         plain = text_of(PLAIN)
@@ -84,8 +86,20 @@ class ByItself(unittest.TestCase):
                 self.assertEqual(line(i, held), line(i, text))
             for batch in batches:
                 self.assertEqual(scale(*batch, held), scale(*batch, text))
+                self.assertEqual(tells(*batch, held), tells(*batch, text))
             self.assertEqual(text, before)
             self.assertEqual(list(held), before)
+
+    def test_what_was_handed_in_is_as_it_was_in_each_place_of_like(self):
+        for text in self.texts:
+            for other in self.texts:
+                before, there = list(text), list(other)
+                answer = like(text, other)
+                self.assertEqual((text, other), (before, there))
+                held, held_there = Unchangeable(text), Unchangeable(other)
+                self.assertEqual(like(held, held_there), answer)
+                self.assertEqual((list(held), list(held_there)), (before, there))
+            self.assertEqual(like(held, held), like(text, text))
 
     def test_a_second_call_answers_the_same(self):
         for call in CALLS.values():
@@ -137,12 +151,17 @@ class ByItself(unittest.TestCase):
         self.assertEqual(sizes(text=text_of(PLAIN)), [0, 2, 3, 2])
         self.assertEqual(line(i=6, text=text_of(PLAIN)), [0, 2, 5, 0, 0, 4, 115, 97, 108, 116])
         self.assertEqual(scale(ml=100000, malt=20, hops=6, text=text_of(PLAIN)), [0, 18, 2, 2, 3, 1, 20, 5])
+        # Extract 18 times 800 and 2 times 820; hops 2 times 350 times 300, 3 times 350 times 50, 300 times 50.
+        self.assertEqual(tells(ml=16040, malt=20, hops=6, text=text_of(PLAIN)), [0, 1, 1, 13875, 802, 1989, 50000])
+        self.assertEqual(like(text=text_of(PLAIN), other=[]), [-6, 0, 19])
 
     def test_whole_numbers_in_lists(self):
         batches = [(1, 0, 0), (100000, 20001, 77), (10000000, 10000000, 10000000)]
         answers = [call(text) for text in self.texts for call in CALLS.values()]
         answers += [line(i, text) for text in self.texts for i in range(8)]
         answers += [scale(*batch, text) for text in self.texts for batch in batches]
+        answers += [tells(*batch, text) for text in self.texts for batch in batches]
+        answers += [like(text, other) for text in self.texts for other in self.texts]
         for answer in answers:
             self.assertIs(type(answer), list)
             for number in answer:

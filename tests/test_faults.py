@@ -1,7 +1,7 @@
 """Texts with a fault: its line and why, with every reason at its edges."""
 import unittest
 
-from brewrecipes.recipes import judge
+from brewrecipes.recipes import judge, like
 from tests.helper import CALLS, PLAIN, adds, coded, hops, malts, recipe_of, text_of
 
 
@@ -9,6 +9,7 @@ class FaultCase(unittest.TestCase):
     def check(self, text, line, why):
         for name, call in CALLS.items():
             self.assertEqual(call(text), [-6, line, why], name)
+        self.assertEqual(like(text_of(PLAIN), text), [-6, line, why + 16])
 
     def check_lines(self, lines, line, why):
         with self.subTest(lines=lines):

@@ -2,7 +2,7 @@
 import unittest
 
 from brewrecipes.recipes import line
-from tests.helper import PLAIN, coded, recipe_of, text_of
+from tests.helper import PLAIN, REFUSED, coded, recipe_of, text_of
 
 
 class OneOfTheLines(unittest.TestCase):
@@ -74,12 +74,8 @@ class OneOfTheLines(unittest.TestCase):
 
     def test_a_refused_text_whatever_is_asked(self):
         for i in (0, 1, 47, 48, 4294967295):
-            self.assertEqual(line(i, []), [-6, 0, 3])
-            self.assertEqual(line(i, text_of(PLAIN)[:-1]), [-6, 8, 1])
-            self.assertEqual(line(i, text_of(PLAIN[:8])), [-6, 8, 3])
-            self.assertEqual(line(i, text_of(PLAIN[:2] + PLAIN[1:])), [-6, 2, 4])
-            self.assertEqual(line(i, text_of(recipe_of(17, 1, 1))), [-6, 17, 2])
-            self.assertEqual(line(i, text_of(PLAIN) * 200), [-2])
+            for text, refusal in REFUSED:
+                self.assertEqual(line(i, text), refusal)
 
 
 if __name__ == "__main__":

@@ -2,7 +2,7 @@
 import unittest
 
 from brewrecipes.recipes import scale
-from tests.helper import PLAIN, Draws, recipe_of, recipe_of_parts, second_add, second_scaled, text_of
+from tests.helper import PLAIN, REFUSED, Draws, recipe_of, recipe_of_parts, second_add, second_scaled, text_of
 
 MOST = 10000000
 
@@ -159,12 +159,8 @@ class BeyondItsBounds(unittest.TestCase):
 
     def test_a_refused_text_whatever_the_batch(self):
         for batch in ((1, 1, 1), (0, 1, 1), (MOST + 1, 1, 1), (1, MOST + 1, 0), (1, 0, MOST + 1), (0, 0, 0)):
-            self.assertEqual(scale(*batch, []), [-6, 0, 3])
-            self.assertEqual(scale(*batch, text_of(PLAIN)[:-1]), [-6, 8, 1])
-            self.assertEqual(scale(*batch, text_of(PLAIN[:8])), [-6, 8, 3])
-            self.assertEqual(scale(*batch, text_of(PLAIN[:2] + PLAIN[1:])), [-6, 2, 4])
-            self.assertEqual(scale(*batch, text_of(recipe_of(1, 17, 1))), [-6, 18, 2])
-            self.assertEqual(scale(*batch, text_of(PLAIN) * 200), [-2])
+            for text, refusal in REFUSED:
+                self.assertEqual(scale(*batch, text), refusal)
 
 
 if __name__ == "__main__":
