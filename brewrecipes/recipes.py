@@ -277,6 +277,18 @@ def extract_of(rows, weight):
     return sum([grams * row.numbers[EXTRACT] for grams, row in zip(scaled(rows, weight), rows)])
 
 
+def least_to_try(rows, needed):
+    """Give back a weight of malts below which their extract is surely less than what is needed."""
+    extracts = [row.numbers[EXTRACT] for row in rows]
+    middle = sorted(extracts)[len(extracts) // 2]
+    # Each malt is at most a gram off its share, and what some have beyond theirs others lack. So the extract is off
+    # what the shares would give by at most the extracts' distances from one number, whichever; the middle one is best.
+    off = sum([abs(extract - middle) for extract in extracts])
+    together = sum([row.numbers[PARTS] for row in rows])
+    of_parts = sum([row.numbers[PARTS] * row.numbers[EXTRACT] for row in rows])
+    return max(0, -((off - needed) * together // of_parts))
+
+
 def use_of(minutes):
     """Give back the use of a hop boiled so many minutes, in thousandths."""
     if minutes < SLOW_MINUTES:
@@ -367,3 +379,19 @@ def like(text, other):
     if len(refusal) > 0:
         return refusal
     return [1 if likeness(first) == likeness(second) else 0]
+
+
+def malt(ml, n, d, text):
+    """Answer 0 and the least grams of malt for a gravity of n / d, else the text's refusal, -1, or -3: none will do."""
+    reading = read_batch(ml, 0, 0, text)
+    if len(reading.refusal) > 0:
+        return reading.refusal
+    if d == 0:
+        return [-1]
+    rows = reading.rows["malt"]
+    needed = (n * ml + d - 1) // d
+    # More malt may give less extract, as a gram may go to another malt than before: each weight is tried by itself.
+    for weight in range(least_to_try(rows, needed), MOST_GRAMS + 1):
+        if extract_of(rows, weight) >= needed:
+            return [0, weight]
+    return [-3]

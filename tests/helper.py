@@ -1,8 +1,10 @@
 """Texts for the tests, and a second judge, scaler and teller, written another way, to hold the program against."""
+import functools
 import re
+import time
 from fractions import Fraction
 
-from brewrecipes.recipes import judge, like, line, scale, sizes, tells
+from brewrecipes.recipes import judge, like, line, malt, scale, sizes, tells
 
 PLAIN = [
     "recipe pale1",
@@ -18,6 +20,10 @@ PLAIN = [
 
 NAMES = ["n%d" % k for k in range(17)]
 
+MOST_GRAMS = 10000000
+GREATEST = 4294967295
+MOST_SECONDS = 2
+
 
 # Every call as one of a text alone, with other arguments that are right, and that would be refused by themselves. Of
 # like the first text; what the second one's refusal is is another.
@@ -30,6 +36,8 @@ CALLS = {
     "scale beyond": lambda text: scale(0, 4294967295, 4294967295, text),
     "tells": lambda text: tells(100000, 20000, 0, text),
     "tells beyond": lambda text: tells(0, 4294967295, 4294967295, text),
+    "malt": lambda text: malt(100000, 1, 10, text),
+    "malt beyond": lambda text: malt(0, 4294967295, 0, text),
     "like": lambda text: like(text, text_of(PLAIN)),
     "like beyond": lambda text: like(text, []),
     "like itself": lambda text: like(text, text),
@@ -112,6 +120,11 @@ def recipe_of_parts(malt_parts, hop_parts, add_grams=()):
     lines += ["hop h%d %d 300 %d" % (k, p, 120 - k) for k, p in enumerate(hop_parts)]
     lines += ["add a%d %d" % (k, g) for k, g in enumerate(add_grams)]
     return text_of(lines + ["yeast 750"])
+
+
+def recipe_of_malts(*rows):
+    """A recipe of malts alone, each told by its parts and extract."""
+    return text_of(["recipe r"] + ["malt m%d %d %d" % (k, p, x) for k, (p, x) in enumerate(rows)] + ["yeast 750"])
 
 
 class Unchangeable(list):
@@ -248,3 +261,64 @@ def second_like(text, other):
         if fellows:
             return False
     return True
+
+
+def quick_malt(ml, n, d, text):
+    """What malt answers, and that it does so within a short time."""
+    start = time.perf_counter()
+    answer = malt(ml, n, d, text)
+    took = time.perf_counter() - start
+    if took > MOST_SECONDS:
+        raise AssertionError("malt took %.1f seconds: %r" % (took, (ml, n, d, bytes(text))))
+    return answer
+
+
+def extracts_of(text, weights):
+    """The extract of each of these weights of a right recipe's malts."""
+    rows = [numbers for name, numbers in rows_of(text, "m")]
+    together = sum(p for p, x in rows)
+    extracts = []
+    for weight in weights:
+        ranked = sorted((-(weight * p % together), k) for k, (p, x) in enumerate(rows))
+        left = -sum(fraction for fraction, k in ranked) // together
+        more = sum(rows[k][1] for fraction, k in ranked[:left])
+        extracts.append(more + sum(weight * p // together * x for p, x in rows))
+    return extracts
+
+
+@functools.lru_cache(maxsize=None)
+def extracts_by_remainder(text):
+    """The parts together, what so many grams of malt give, and what every lesser weight gives."""
+    rows = [numbers for name, numbers in rows_of(text, "m")]
+    together = sum(p for p, x in rows)
+    return together, sum(p * x for p, x in rows), extracts_of(text, range(together))
+
+
+def second_malt(text, needed):
+    """The least weight of malt, however great, that gives the extract needed.
+
+    With as many grams more as there are parts, each malt has just its parts more. So of all the weights that leave the
+    same remainder the least is told by the first one's extract, and going through the remainders is going through all.
+    """
+    together, of_parts, extracts = extracts_by_remainder(bytes(text))
+    rounds = [max(0, -((extract - needed) // of_parts)) for extract in extracts]
+    return min(count * together + rest for rest, count in enumerate(rounds))
+
+
+def greatest_extract(text):
+    """The greatest extract that malts of at most 10,000,000 grams give; not always that of the greatest weight."""
+    together, of_parts, extracts = extracts_by_remainder(bytes(text))
+    return max(extract + (MOST_GRAMS - rest) // together * of_parts
+               for rest, extract in enumerate(extracts[:MOST_GRAMS + 1]))
+
+
+def asked(needed):
+    """Millilitres, n and d that ask for just this extract, that is ml n / d rounded up; for one below twice GREATEST."""
+    if needed <= GREATEST:
+        return 1, needed, 1
+    for d in range(1, 1000):
+        ml = 2 * d + 1
+        n = needed * d // ml
+        if -(-ml * n // d) == needed:
+            return ml, n, d
+    raise AssertionError("no n / d found for %d" % needed)

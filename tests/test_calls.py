@@ -6,7 +6,7 @@ import pathlib
 import unittest
 
 import brewrecipes
-from brewrecipes.recipes import judge, like, line, scale, sizes, tells
+from brewrecipes.recipes import judge, like, line, malt, scale, sizes, tells
 from tests.helper import CALLS, PLAIN, Unchangeable, coded, recipe_of, text_of
 
 PACKAGE = pathlib.Path(brewrecipes.__file__).parent
@@ -87,6 +87,8 @@ class ByItself(unittest.TestCase):
             for batch in batches:
                 self.assertEqual(scale(*batch, held), scale(*batch, text))
                 self.assertEqual(tells(*batch, held), tells(*batch, text))
+            for wanted in ((1, 0, 1), (100000, 3, 7), (10000000, 4294967295, 1), (0, 1, 1), (1, 1, 0)):
+                self.assertEqual(malt(*wanted, held), malt(*wanted, text))
             self.assertEqual(text, before)
             self.assertEqual(list(held), before)
 
@@ -154,6 +156,7 @@ class ByItself(unittest.TestCase):
         # Extract 18 times 800 and 2 times 820; hops 2 times 350 times 300, 3 times 350 times 50, 300 times 50.
         self.assertEqual(tells(ml=16040, malt=20, hops=6, text=text_of(PLAIN)), [0, 1, 1, 13875, 802, 1989, 50000])
         self.assertEqual(like(text=text_of(PLAIN), other=[]), [-6, 0, 19])
+        self.assertEqual(malt(ml=1000, n=16040, d=1000, text=text_of(PLAIN)), [0, 20])
 
     def test_whole_numbers_in_lists(self):
         batches = [(1, 0, 0), (100000, 20001, 77), (10000000, 10000000, 10000000)]
@@ -162,6 +165,7 @@ class ByItself(unittest.TestCase):
         answers += [scale(*batch, text) for text in self.texts for batch in batches]
         answers += [tells(*batch, text) for text in self.texts for batch in batches]
         answers += [like(text, other) for text in self.texts for other in self.texts]
+        answers += [malt(1000, n, d, text) for text in self.texts for n in (0, 1, 4294967295) for d in (0, 1, 1000)]
         for answer in answers:
             self.assertIs(type(answer), list)
             for number in answer:

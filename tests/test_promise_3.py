@@ -1,7 +1,7 @@
 """Promise 3: malts' parts, or hops', all multiplied by one number change nothing of what is answered."""
 import unittest
 
-from brewrecipes.recipes import like, scale, tells
+from brewrecipes.recipes import like, malt, scale, tells
 from tests.helper import Draws, recipe_drawn, recipe_of_parts, text_of
 
 MOST = 10000000
@@ -37,15 +37,20 @@ def all_multiplied(lines):
 
 class PartsMultiplied(unittest.TestCase):
     def check(self, lines, batch, others=()):
-        """What scale and tells answer of a batch, and like of each multiplied one with each of the others."""
+        """What scale, tells and malt answer of a batch, and like of each multiplied one with each of the others."""
         plain = text_of(lines)
         grams, told = scale(*batch, plain), tells(*batch, plain)
+        # More than any malt gives, the batch's own gravity, and a little more of it, as far as such numbers go.
+        gravities = [[850 * MOST // batch[0] + 1, 1], told[1:3], [told[1] + 1, told[2]]]
+        gravities = [gravity for gravity in gravities if gravity[0] <= 4294967295]
+        needs = [malt(batch[0], *gravity, plain) for gravity in gravities]
         held = [(other, like(plain, other), like(other, plain)) for other in others]
-        self.assertEqual((grams[0], told[0]), (0, 0))
+        self.assertEqual((grams[0], told[0], needs[0]), (0, 0, [-3]))
         for text in all_multiplied(lines):
             with self.subTest(text=bytes(text), batch=batch):
                 self.assertEqual(scale(*batch, text), grams)
                 self.assertEqual(tells(*batch, text), told)
+                self.assertEqual([malt(batch[0], *gravity, text) for gravity in gravities], needs)
                 self.assertEqual(like(text, plain), [1])
                 self.assertEqual(like(plain, text), [1])
                 for other, there, back in held:
@@ -55,7 +60,7 @@ class PartsMultiplied(unittest.TestCase):
     def drawn_batch(self, draws, lines):
         most = draws.between(0, MOST)
         hops = draws.between(0, most) if any(line.startswith("hop ") for line in lines) else 0
-        return draws.between(1, MOST), draws.between(0, most), hops
+        return draws.between(2, MOST), draws.between(0, most), hops
 
     def test_many_recipes(self):
         draws = Draws(4)
@@ -86,6 +91,8 @@ class PartsMultiplied(unittest.TestCase):
             self.assertEqual(scale(1, 10, 3, text), [0, 2, 3, 5, 2, 1])
             # Extract 10 times 800; hops 3 times 300 times 330; strength 8000 times 750 times 51 / 1,000,000.
             self.assertEqual(tells(1, 10, 3, text), [0, 8000, 1, 297000, 1, 306, 1])
+            self.assertEqual(malt(1, 8000, 1, text), [0, 10])
+            self.assertEqual(malt(1, 8001, 1, text), [0, 11])
             self.assertEqual(like(text, plain), [1])
 
 
